@@ -1,0 +1,300 @@
+"""What the tests share: the definitions written out once more in another way, sample railways, odd values."""
+
+import contextlib
+import random
+import re
+
+from staffhome import errors
+
+SORTS = ("free", "staff", "ticket")
+
+
+# The definitions of point [2], written as plainly as can be, without a thought of speed.
+
+
+def is_name(thing):
+    return type(thing) is str and re.fullmatch("[a-z]{1,12}", thing) is not None
+
+
+def is_ascending(things):
+    return list(things) == sorted(things) and all(things.count(thing) == 1 for thing in things)
+
+
+def all_paths(keys, one, other, ahead=()):
+    """Every path from one to other that visits no station twice, as tuples with both ends."""
+    if one == other:
+        return [ahead + (one,)]
+    found = []
+    for key in keys:
+        if one in key and key[0] != key[1]:
+            after = key[1] if key[0] == one else key[0]
+            if after not in ahead:
+                found.extend(all_paths(keys, after, other, ahead + (one,)))
+    return found
+
+
+def keys_of(line):
+    return [(one, other) for one, other, _ in line[1]]
+
+
+def the_path(line, one, other):
+    """The only path of a LINE, with both ends."""
+    (path,) = all_paths(keys_of(line), one, other)
+    return path
+
+
+def is_line(thing):
+    if type(thing) is not tuple or len(thing) != 2:
+        return False
+    stations, sections = thing
+    if type(stations) is not tuple or stations == () or not all(map(is_name, stations)):
+        return False
+    if not is_ascending(stations) or type(sections) is not tuple:
+        return False
+    for row in sections:
+        if type(row) is not tuple or len(row) != 3 or not all(type(word) is str for word in row):
+            return False
+        if row[0] not in stations or row[1] not in stations or not row[0] < row[1] or row[2] not in SORTS:
+            return False
+    keys = [row[:2] for row in sections]
+    if not is_ascending(sections) or len(set(keys)) != len(keys) or len(keys) >= len(stations):
+        return False
+    return all(len(all_paths(keys, one, other)) == 1 for one in stations for other in stations)
+
+
+def is_key(line, thing):
+    return type(thing) is tuple and thing in keys_of(line)
+
+
+def is_lot(line, thing):
+    return type(thing) is tuple and all(is_key(line, key) for key in thing) and is_ascending(thing)
+
+
+def is_part(line, thing):
+    if type(thing) is not tuple or thing == ():
+        return False
+    if not all(type(station) is str and station in line[0] for station in thing) or not is_ascending(thing):
+        return False
+    return all(set(the_path(line, thing[0], station)) <= set(thing) for station in thing)
+
+
+def is_train(line, thing):
+    if type(thing) is not tuple or len(thing) != 3:
+        return False
+    name, place, rest = thing
+    if not is_name(name) or type(place) is not str or place not in line[0] or type(rest) is not tuple:
+        return False
+    at = place
+    for stop in rest:
+        if type(stop) is not str or tuple(sorted((at, stop))) not in keys_of(line):
+            return False
+        at = stop
+    return True
+
+
+def are_trains(line, thing):
+    if type(thing) is not tuple or not all(is_train(line, train) for train in thing):
+        return False
+    return is_ascending([name for name, _, _ in thing])
+
+
+def are_staffs(line, thing):
+    if type(thing) is not tuple or not all(type(pair) is tuple and len(pair) == 2 for pair in thing):
+        return False
+    if [pair[0] for pair in thing] != [row[:2] for row in line[1] if row[2] in ("staff", "ticket")]:
+        return False
+    return all(type(end) is str and end in key for key, end in thing)
+
+
+def is_standing(line, thing):
+    return type(thing) is tuple and len(thing) == 2 and are_staffs(line, thing[0]) and are_trains(line, thing[1])
+
+
+def is_move(thing):
+    if type(thing) is not tuple or len(thing) != 2:
+        return False
+    return is_name(thing[0]) and type(thing[1]) is str and thing[1] in SORTS
+
+
+def are_moves(thing):
+    return type(thing) is tuple and all(is_move(move) for move in thing)
+
+
+def behind(line, standing, move):
+    """The STANDING that a MOVE leads to, None if it cannot be done."""
+    staffs = dict(standing[0])
+    trains = {name: (place, rest) for name, place, rest in standing[1]}
+    name, how = move
+    if name not in trains or trains[name][1] == ():
+        return None
+    place, rest = trains[name]
+    key = tuple(sorted((place, rest[0])))
+    (sort,) = [row[2] for row in line[1] if row[:2] == key]
+    allowed = {"free": ["free"], "staff": ["staff"], "ticket": ["staff", "ticket"]}[sort]
+    if how not in allowed or (sort != "free" and staffs[key] != place):
+        return None
+    trains[name] = (rest[0], rest[1:])
+    if how == "staff":
+        staffs[key] = rest[0]
+    return (tuple(sorted(staffs.items())), tuple((name, *trains[name]) for name in sorted(trains)))
+
+
+# Sample railways and standings.
+
+
+def row_line(count, sorts=SORTS):
+    """A LINE of stations one behind the other, its sorts by turns."""
+    stations = [station_name(index) for index in range(count)]
+    rows = [tuple(sorted(stations[k:k + 2])) + (sorts[k % len(sorts)],) for k in range(count - 1)]
+    return (tuple(sorted(stations)), tuple(sorted(rows)))
+
+
+def star_line(count, sorts=SORTS):
+    """A LINE of stations about one in their middle."""
+    stations = [station_name(index) for index in range(count)]
+    hub = stations[count // 2]
+    rows = [tuple(sorted((hub, end))) + (sorts[k % len(sorts)],) for k, end in enumerate(stations) if end != hub]
+    return (tuple(sorted(stations)), tuple(sorted(rows)))
+
+
+def station_name(index):
+    """A NAME for a number; the orders of both have nothing to do with each other."""
+    letters = "qwertyuiopasdfghjklzxcvbnm"
+    return letters[index % 26] if index < 26 else letters[index % 26] + station_name(index // 26 - 1)
+
+
+def random_line(dice, count, sorts=SORTS):
+    """A branching LINE of so many stations."""
+    stations = set()
+    while len(stations) < count:
+        stations.add("".join(dice.choice("abcdm") for _ in range(dice.randint(1, 4))))
+    stations = sorted(stations)
+    dice.shuffle(stations)
+    rows = []
+    for index in range(1, count):
+        ends = sorted((stations[index], dice.choice(stations[max(0, index - 6):index])))
+        rows.append((*ends, dice.choice(sorts)))
+    return (tuple(sorted(stations)), tuple(sorted(rows)))
+
+
+def random_rest(dice, line, place, length):
+    rest = []
+    while len(rest) < length and len(line[0]) > 1:
+        place = dice.choice([key[key[0] == place] for key in keys_of(line) if place in key])
+        rest.append(place)
+    return tuple(rest)
+
+
+def random_standing(dice, line, trains, longest):
+    """A STANDING with so many trains, whose rests have at most so many stations."""
+    staffs = tuple(((one, other), dice.choice((one, other))) for one, other, sort in line[1] if sort != "free")
+    names = set()
+    while len(names) < trains:
+        names.add("".join(dice.choice("nopq") for _ in range(dice.randint(1, 12))))
+    rows = []
+    for name in sorted(names):
+        place = dice.choice(line[0])
+        rows.append((name, place, random_rest(dice, line, place, dice.randint(0, longest))))
+    return (staffs, tuple(rows))
+
+
+def sample_lines():
+    dice = random.Random(7)
+    lines = [row_line(1), row_line(2), row_line(3), row_line(7), row_line(24), star_line(4), star_line(24)]
+    lines.append((("a", "b", "c", "d"), (("a", "b", "staff"), ("b", "c", "ticket"), ("b", "d", "free"))))
+    lines.extend(random_line(dice, count) for count in (2, 3, 4, 5, 6, 8, 11, 16, 24))
+    return lines
+
+
+def sample_standings(seed=3):
+    """Pairs of a LINE and a STANDING of it: no trains, one, several, as many and as long as the bounds let be."""
+    dice = random.Random(seed)
+    pairs = []
+    for line in sample_lines():
+        for trains, longest in ((0, 0), (1, 0), (1, 5), (3, 2), (6, 7), (24, 20)):
+            pairs.append((line, random_standing(dice, line, trains, longest)))
+    return pairs
+
+
+def random_row(dice, line, standing, most):
+    """A ROW of at most so many MOVES, and the list of the STANDINGS behind each."""
+    row, standings = [], [standing]
+    while len(row) < most:
+        moves = [(train[0], how) for train in standings[-1][1] for how in SORTS]
+        moves = [move for move in moves if behind(line, standings[-1], move) is not None]
+        if not moves:
+            break
+        row.append(dice.choice(moves))
+        standings.append(behind(line, standings[-1], row[-1]))
+    return tuple(row), standings
+
+
+# Odd values.
+
+
+def package_objects():
+    return [
+        errors.StaffError("a"), errors.NoCommand("a"), errors.NoLine(("none",)), errors.NoMove(0),
+        errors.NoText(0, 1), errors.NoTrain("a"), errors.NoWay(None), errors.Nothing(), errors.TooMany(2000),
+        errors.Used("p"), errors.Wrong(0),
+    ]
+
+
+def deep(kind, depth):
+    thing = kind()
+    for _ in range(depth):
+        thing = {"a": thing} if kind is dict else kind([thing])
+    return thing
+
+
+def any_values():
+    """Values of all kinds that point [4] names, new ones with each call."""
+    return [
+        None, True, False, 0, 1, 2, -1, 10 ** 39, -(10 ** 39), "", " ", "\n", "a", "b", "a\n", "p", "staff", "free",
+        "a" * 12, "a" * 13, "z" * 9000, "~ A0_-#{}", (), [], {}, ("a",), ["a"], {"a": "b"}, ("a", "b"), ["a", "b"],
+        (("a", "b"),), [("a", "b")], ("a", 1), (1, "a"), (None, None), (True, False), ("a", ["b"]), (["a"], {}),
+        ("p", "staff"), (("p", "staff"), ["p", "staff"]), ((), ()), ([], []), (("a",), []), (["a"], ()),
+        tuple(range(3000)), list(range(3000)), ("a",) * 3000, (("a", "b"),) * 900, {("a", "b"): "a"},
+        {index: (index, [index]) for index in range(900)}, deep(tuple, 20), deep(list, 20), deep(dict, 20),
+        ("a", "b", "c"), ("a", "b", "staff"), (("a", "b"), "a"), ((("a", "b"), "a"),), ("p", "a", ()), (("p", "a", ()),),
+        *package_objects(), tuple(package_objects()), package_objects(), (errors.Wrong(0), "a"), ("p", errors.Wrong(0)),
+    ]
+
+
+def exchanged(thing, others):
+    """Tuples like this one with a part left out, doubled, turned, exchanged for others, or made a list."""
+    if not isinstance(thing, tuple):
+        return
+    yield list(thing)
+    yield thing[::-1]
+    for at in range(len(thing) + 1):
+        head, tail = thing[:at], thing[at:]
+        yield head
+        for other in others:
+            yield head + (other,) + tail
+        if tail:
+            yield head + tail[1:]
+            yield head + tail[:1] + tail
+            yield head + tail[1:2] + tail[:1] + tail[2:]
+            for other in others:
+                yield head + (other,) + tail[1:]
+            for part in exchanged(tail[0], others):
+                yield head + (part,) + tail[1:]
+
+
+class Checks:
+    """Assertions that several test cases share."""
+
+    @contextlib.contextmanager
+    def raises(self, kind, **fields):
+        """What is done here raises an error of just this class, with these very fields."""
+        with self.assertRaises(errors.StaffError) as caught:
+            yield
+        self.assertIs(type(caught.exception), kind)
+        self.assertEqual(vars(caught.exception), fields)
+        for name, worth in fields.items():
+            self.assertIs(type(getattr(caught.exception, name)), type(worth))
+
+    def tells(self, answer, expected, *things):
+        """The answer is the truth expected, and nothing that is merely equal to it."""
+        self.assertIs(answer, expected, things)

@@ -1,0 +1,30 @@
+"""The examples of the document, to the letter, each file with those of one stage; and that of the README."""
+
+import doctest
+import pathlib
+import unittest
+
+FOLDER = pathlib.Path(__file__).parent
+
+
+class Examples(unittest.TestCase):
+    def holds(self, name, least):
+        text = (FOLDER / name).read_text()
+        test = doctest.DocTestParser().get_doctest(text, {}, name, name, 0)
+        self.assertGreaterEqual(len(test.examples), least)
+        told = []
+        result = doctest.DocTestRunner(verbose=False).run(test, out=told.append)
+        self.assertEqual(result.failed, 0, "".join(told))
+
+    def test_forms(self):
+        self.holds("examples/forms.txt", 15)
+
+    def test_lines(self):
+        self.holds("examples/lines.txt", 12)
+
+    def test_readme(self):
+        self.holds("../README.md", 5)
+
+
+if __name__ == "__main__":
+    unittest.main()

@@ -1,0 +1,67 @@
+"""The interface at the document's end, as far as it has landed; and [3]'s word that parameters are positional."""
+
+import ast
+import importlib
+import pathlib
+import unittest
+
+PACKAGE = pathlib.Path(__file__).parent.parent / "staffhome"
+
+CLASSES = {
+    "errors": {
+        "StaffError": None, "NoCommand": ["line"], "NoLine": ["fault"], "NoMove": ["index"],
+        "NoText": ["line", "column"], "NoTrain": ["name"], "NoWay": ["reason"], "Nothing": [], "TooMany": ["most"],
+        "Used": ["name"], "Wrong": ["place"],
+    },
+}
+
+FUNCTIONS = {
+    "forms": {
+        "is_integer": "thing", "is_name": "thing", "is_line": "thing", "is_key": "line thing", "is_lot": "line thing",
+        "is_part": "line thing", "are_trains": "line thing", "are_staffs": "line thing", "is_standing": "line thing",
+        "is_move": "thing", "are_moves": "thing",
+    },
+    "lines": {
+        "key_of": "one other", "section": "line one other", "sort_of": "line key", "keys_of": "line",
+        "neighbours": "line station", "way": "line one other", "beyond": "line one other", "least_part": "line stations",
+        "border": "line part", "inner": "line part", "cut": "line lot", "line_fault": "stations sections",
+        "made_line": "stations sections",
+    },
+    "linetexts": {"line_text": "line", "read_line": "text"},
+}
+
+
+class Interface(unittest.TestCase):
+    def defined(self, module):
+        """The dict from the names that a file defines itself to their nodes."""
+        rows = ast.parse((PACKAGE / f"{module}.py").read_text()).body
+        return {row.name: row for row in rows if isinstance(row, (ast.FunctionDef, ast.ClassDef))}
+
+    def parameters(self, node):
+        arguments = node.args
+        self.assertFalse(arguments.vararg or arguments.kwarg or arguments.kwonlyargs or arguments.defaults)
+        return [argument.arg for argument in arguments.args]
+
+    def test_functions(self):
+        for module, functions in FUNCTIONS.items():
+            defined = self.defined(module)
+            for name, parameters in functions.items():
+                self.assertIsInstance(defined[name], ast.FunctionDef)
+                self.assertEqual(self.parameters(defined[name]), parameters.split(), (module, name))
+                self.assertTrue(callable(getattr(importlib.import_module(f"staffhome.{module}"), name)))
+
+    def test_classes(self):
+        for module, classes in CLASSES.items():
+            defined = self.defined(module)
+            for name, parameters in classes.items():
+                self.assertIsInstance(defined[name], ast.ClassDef)
+                methods = {row.name: row for row in defined[name].body if isinstance(row, ast.FunctionDef)}
+                if parameters is not None:
+                    self.assertEqual(self.parameters(methods["__init__"])[1:], parameters, (module, name))
+
+    def test_the_init_file_is_empty(self):
+        self.assertEqual((PACKAGE / "__init__.py").read_bytes(), b"")
+
+
+if __name__ == "__main__":
+    unittest.main()
