@@ -22,8 +22,14 @@ class Examples(unittest.TestCase):
     def test_lines(self):
         self.holds("examples/lines.txt", 12)
 
+    def test_standings(self):
+        self.holds("examples/standings.txt", 18)
+
+    def test_fits(self):
+        self.holds("examples/fits.txt", 9)
+
     def test_readme(self):
-        self.holds("../README.md", 5)
+        self.holds("../README.md", 9)
 
 
 if __name__ == "__main__":

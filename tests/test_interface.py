@@ -28,6 +28,22 @@ FUNCTIONS = {
         "made_line": "stations sections",
     },
     "linetexts": {"line_text": "line", "read_line": "text"},
+    "standings": {
+        "place_of": "standing name", "rest_of": "standing name", "passes_of": "standing name", "names_of": "standing",
+        "trains_at": "standing station", "staff_of": "standing key", "passes_left": "line standing",
+        "needed": "line standing", "stops_left": "standing", "is_home": "standing",
+        "with_staff": "standing key station", "with_train": "standing train", "without_train": "standing name",
+    },
+    "moves": {
+        "next_pass": "standing name", "can_be_done": "line standing move", "moves_of": "line standing",
+        "moved": "line standing move", "traced": "line standing row", "run": "line standing row",
+        "is_row": "line standing thing",
+    },
+    "standingtexts": {"standing_text": "line standing", "read_standing": "line text"},
+    "fits": {
+        "counts": "line standing key", "does_fit": "line standing key", "overfull": "line standing",
+        "turns": "line standing key", "staffs_at_home": "line standing",
+    },
 }
 
 
