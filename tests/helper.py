@@ -229,6 +229,17 @@ def random_row(dice, line, standing, most):
     return tuple(row), standings
 
 
+def scattered(dice, rows):
+    """A text of lists of words: in any order, with blanks, remarks and empty rows between."""
+    rows = rows + [[] for _ in range(dice.randint(0, 4))]
+    dice.shuffle(rows)
+    texts = []
+    for words in rows:
+        text = " " * dice.randint(0, 3) + (" " * dice.randint(1, 3)).join(words) + " " * dice.randint(0, 3)
+        texts.append(text + dice.choice(["", "", "#", "# by hand", "#a b staff", "#staff a b a", " ## x # y"]))
+    return "\n".join(texts)
+
+
 # Odd values.
 
 

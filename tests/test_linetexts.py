@@ -15,13 +15,7 @@ def shown_otherwise(dice, line):
     """Another text of a LINE: rows in any order, ends turned, blanks, remarks, empty rows, stations told alone."""
     rows = [[*dice.sample(row[:2], 2), row[2]] for row in line[1]]
     rows += [[station] for station in line[0] if not line[1] or dice.random() < 0.3]
-    rows += [[] for _ in range(dice.randint(0, 4))]
-    dice.shuffle(rows)
-    texts = []
-    for words in rows:
-        text = " " * dice.randint(0, 3) + (" " * dice.randint(1, 3)).join(words) + " " * dice.randint(0, 3)
-        texts.append(text + dice.choice(["", "", "#", "# by hand", "#a b staff", " ## x # y"]))
-    return "\n".join(texts)
+    return helper.scattered(dice, rows)
 
 
 class LineTexts(Checks, unittest.TestCase):

@@ -17,13 +17,7 @@ def shown_otherwise(dice, standing):
     """Another text of a STANDING: lines in any order, keys turned, blanks, remarks, empty rows."""
     rows = [["staff", *dice.sample(key, 2), end] for key, end in standing[0]]
     rows += [["train", name, place, *rest] for name, place, rest in standing[1]]
-    rows += [[] for _ in range(dice.randint(0, 4))]
-    dice.shuffle(rows)
-    texts = []
-    for words in rows:
-        text = " " * dice.randint(0, 3) + (" " * dice.randint(1, 3)).join(words) + " " * dice.randint(0, 3)
-        texts.append(text + dice.choice(["", "", "#", "# by hand", "#staff a b a", " ## x # y"]))
-    return "\n".join(texts)
+    return helper.scattered(dice, rows)
 
 
 class StandingTexts(Checks, unittest.TestCase):
