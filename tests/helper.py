@@ -1,8 +1,11 @@
 """What the tests share: the definitions written out once more in another way, sample railways, odd values."""
 
 import contextlib
+import functools
+import itertools
 import random
 import re
+import time
 
 from staffhome import errors
 
@@ -139,6 +142,126 @@ def behind(line, standing, move):
     return (tuple(sorted(staffs.items())), tuple((name, *trains[name]) for name in sorted(trains)))
 
 
+def key_of(one, other):
+    return tuple(sorted((one, other)))
+
+
+def steps_of(train):
+    """The passes (from, to) that are left to a train."""
+    _, place, rest = train
+    return list(zip((place, *rest), rest))
+
+
+def steps_left(trains):
+    return [step for train in trains for step in steps_of(train)]
+
+
+def needed_keys(standing):
+    return {key_of(*step) for step in steps_left(standing[1])}
+
+
+def keys_of_sort(line, *sorts):
+    return [row[:2] for row in line[1] if row[2] in sorts]
+
+
+def is_home(standing):
+    return all(rest == () for _, _, rest in standing[1])
+
+
+def plain_counts(standing, key):
+    """The a and b of a section with a staff."""
+    near = dict(standing[0])[key]
+    away = key[key[0] == near]
+    steps = steps_left(standing[1])
+    return (steps.count((near, away)), steps.count((away, near)))
+
+
+def does_fit(standing, key):
+    a, b = plain_counts(standing, key)
+    return a - b in (0, 1)
+
+
+def all_fit(line, standing):
+    return all(does_fit(standing, key) for key in keys_of_sort(line, "staff"))
+
+
+def is_shut(line, standing, thing):
+    if not is_part(line, thing):
+        return False
+    staffs = dict(standing[0])
+    at_border = [key for key in keys_of(line) if len(set(key) & set(thing)) == 1 and key in needed_keys(standing)]
+    if at_border == [] or not all(key in staffs and staffs[key] in thing for key in at_border):
+        return False
+    return all(set(rest) <= set(thing) for _, place, rest in standing[1] if place in thing)
+
+
+def is_held(line, standing, thing):
+    if not is_lot(line, thing) or thing == ():
+        return False
+    staffs = dict(standing[0])
+    if not all(key in staffs and key in needed_keys(standing) for key in thing):
+        return False
+    over = [[step for step in steps_of(train) if key_of(*step) in thing] for train in standing[1]]
+    return all(staffs[key_of(*steps[0])] != steps[0][0] for steps in over if steps)
+
+
+def all_lots(line):
+    keys = keys_of(line)
+    return [lot for many in range(len(keys) + 1) for lot in itertools.combinations(keys, many)]
+
+
+def all_parts(line):
+    """All PARTS of a small LINE."""
+    tuples = [part for many in range(len(line[0])) for part in itertools.combinations(line[0], many + 1)]
+    return sorted(part for part in tuples if is_part(line, part))
+
+
+def part_beyond(line, one, other):
+    return tuple(station for station in line[0] if the_path(line, one, station)[1:2] == (other,))
+
+
+def open_end(dice, line, standing, part=None):
+    """What is passed in the OPEN RUN of a PART alone, and its trains at the end; they go on in any order."""
+    part = line[0] if part is None else part
+    staffs = dict(standing[0])
+    passed = set()
+    trains = {name: (place, rest) for name, place, rest in standing[1] if place in part}
+    ready = [True]
+    while ready:
+        ready = []
+        for name, (place, rest) in trains.items():
+            if place in part and rest:
+                key = key_of(place, rest[0])
+                if key not in staffs or key in passed or staffs[key] == place:
+                    ready.append((name, key, rest))
+        if ready:
+            name, key, rest = dice.choice(ready)
+            passed.add(key)
+            trains[name] = (rest[0], rest[1:])
+    return (tuple(sorted(passed)), tuple((name, *trains[name]) for name in sorted(trains)))
+
+
+def moves_behind(line, standing):
+    """Pairs of a MOVE that can be done and the STANDING behind it."""
+    moves = [(train[0], how) for train in standing[1] for how in SORTS]
+    pairs = [(move, behind(line, standing, move)) for move in moves]
+    return [(move, later) for move, later in pairs if later is not None]
+
+
+def all_reached(line, standing, most):
+    """The list of all STANDINGS to which ROWS lead, None if there are more than so many."""
+    found = {standing: True}
+    waiting = [standing]
+    while waiting:
+        for _, later in moves_behind(line, waiting.pop()):
+            if later not in found:
+                found[later] = True
+                waiting.append(later)
+        if len(found) > most:
+            return None
+    return list(found)
+
+
 # Sample railways and standings.
 
 
@@ -214,6 +337,71 @@ def sample_standings(seed=3):
         for trains, longest in ((0, 0), (1, 0), (1, 5), (3, 2), (6, 7), (24, 20)):
             pairs.append((line, random_standing(dice, line, trains, longest)))
     return pairs
+
+
+def fitted(dice, line, standing):
+    """The STANDING with its staffs laid so that sections fit, wherever they can."""
+    staffs = []
+    for key, station in standing[0]:
+        here, there = [steps_left(standing[1]).count(step) for step in (key, key[::-1])]
+        if here != there and key in keys_of_sort(line, "staff"):
+            station = key[here < there]
+        staffs.append((key, station))
+    return (tuple(staffs), standing[1])
+
+
+@functools.lru_cache
+def small_standings(seed, many):
+    """So many pairs of a small LINE and a STANDING of it from which few STANDINGS are reached."""
+    dice = random.Random(seed)
+    kinds = [("staff",), ("staff", "ticket"), ("staff", "staff", "ticket", "free"), SORTS]
+    pairs = []
+    while len(pairs) < many:
+        line = random_line(dice, dice.randint(2, 6), dice.choice(kinds))
+        standing = random_standing(dice, line, dice.randint(1, 5), dice.randint(1, 7))
+        if dice.random() < 0.7:
+            standing = fitted(dice, line, standing)
+        if all_reached(line, standing, 400) is not None:
+            pairs.append((line, standing))
+    return tuple(pairs)
+
+
+def safe_standing(dice, line, trains, longest, total):
+    """A SAFE STANDING and a ROW that brings all home: a ROW gone backwards from where all are home."""
+    staffs = {key: dice.choice(key) for key in keys_of_sort(line, "staff", "ticket")}
+    at = {station_name(index) + "x": (dice.choice(line[0]), ()) for index in range(trains)}
+    row = []
+    for _ in range(20 * total):
+        name = dice.choice(sorted(at))
+        place, rest = at[name]
+        key = dice.choice([key for key in keys_of(line) if place in key])
+        start = key[key[0] == place]
+        how = dice.choice(["free"] if key not in staffs else ["staff", "ticket"])
+        can = {"free": True, "staff": staffs.get(key) == place, "ticket": staffs.get(key) == start}[how]
+        if can and len(rest) < longest and len(row) < total and (how != "ticket" or key in keys_of_sort(line, how)):
+            row.insert(0, (name, how))
+            at[name] = (start, (place, *rest))
+            if how == "staff":
+                staffs[key] = start
+    return (tuple(sorted(staffs.items())), tuple((name, *at[name]) for name in sorted(at))), tuple(row)
+
+
+def wide_standings(seed):
+    """Triples of a LINE of 24 stations, a SAFE STANDING of 24 trains and hundreds of stops, and its ROW."""
+    dice = random.Random(seed)
+    lines = [row_line(24), row_line(24, ("staff",)), star_line(24), star_line(24, ("staff",))]
+    lines.extend(random_line(dice, 24, sorts) for sorts in (SORTS, ("staff",), ("staff", "ticket")))
+    return [(line, *safe_standing(dice, line, 24, 40, 480)) for line in lines]
+
+
+def round_trains(dice, line, many, half):
+    """So many trains that go out over up to so many sections, and back."""
+    trains = []
+    for index in range(many):
+        place = dice.choice(line[0])
+        path = (place, *random_rest(dice, line, place, dice.randint(0, half)))
+        trains.append((station_name(index) + "o", place, path[1:] + path[::-1][1:]))
+    return tuple(sorted(trains))
 
 
 def random_row(dice, line, standing, most):
@@ -295,6 +483,13 @@ def exchanged(thing, others):
 
 class Checks:
     """Assertions that several test cases share."""
+
+    @contextlib.contextmanager
+    def within(self, seconds):
+        """What is done here does not take long; seconds are many times what it takes."""
+        begin = time.perf_counter()
+        yield
+        self.assertLess(time.perf_counter() - begin, seconds)
 
     @contextlib.contextmanager
     def raises(self, kind, **fields):

@@ -28,6 +28,15 @@ class Examples(unittest.TestCase):
     def test_fits(self):
         self.holds("examples/fits.txt", 9)
 
+    def test_openruns(self):
+        self.holds("examples/openruns.txt", 9)
+
+    def test_held(self):
+        self.holds("examples/held.txt", 9)
+
+    def test_verdicts(self):
+        self.holds("examples/verdicts.txt", 9)
+
     def test_readme(self):
         self.holds("../README.md", 9)
 

@@ -4,21 +4,10 @@ import random
 import unittest
 
 import helper
-from helper import Checks, behind, sample_standings
+from helper import Checks, behind, keys_of_sort, plain_counts, sample_standings
 from staffhome.fits import counts, does_fit, overfull, staffs_at_home, turns
 
 LINE = (("a", "b", "c", "d"), (("a", "b", "staff"), ("b", "c", "ticket"), ("b", "d", "free")))
-
-
-def passes_over(standing, one, other):
-    """How many passes are left from one to other."""
-    return sum(list(zip((place, *rest), rest)).count((one, other)) for _, place, rest in standing[1])
-
-
-def plain_counts(standing, key):
-    near = dict(standing[0])[key]
-    away = key[key[0] == near]
-    return (passes_over(standing, near, away), passes_over(standing, away, near))
 
 
 def by_turns(a, b):
@@ -28,10 +17,6 @@ def by_turns(a, b):
         a, b = (a - 1, b) if gone % 2 == 0 else (a, b - 1)
         gone += 1
     return gone
-
-
-def keys_of_sort(line, *sorts):
-    return [row[:2] for row in line[1] if row[2] in sorts]
 
 
 def crowd(staff, a, b):

@@ -44,6 +44,16 @@ FUNCTIONS = {
         "counts": "line standing key", "does_fit": "line standing key", "overfull": "line standing",
         "turns": "line standing key", "staffs_at_home": "line standing",
     },
+    "openruns": {
+        "open_run": "line standing", "opening": "line standing", "run_alone": "line standing part",
+        "comes_out": "line standing one other",
+    },
+    "held": {"is_held": "line standing thing", "held": "line standing", "held_back": "line standing"},
+    "shut": {"is_shut": "line standing thing", "shut_part": "line standing", "shut_parts": "line standing"},
+    "verdicts": {
+        "reason": "line standing", "is_reason": "line standing thing", "is_safe": "line standing",
+        "is_safe_slowly": "line standing", "reached": "line standing",
+    },
 }
 
 

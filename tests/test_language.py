@@ -43,7 +43,7 @@ BUILTINS = {
 
 METHODS = {
     "append", "copy", "count", "endswith", "extend", "find", "get", "index", "insert", "items", "join", "keys", "pop",
-    "remove", "replace", "reverse", "rfind", "split", "startswith", "strip", "update", "values",
+    "remove", "replace", "reverse", "rfind", "setdefault", "split", "startswith", "strip", "update", "values",
 }
 
 BARRED_NAMES = set(dir(__builtins__) if not isinstance(__builtins__, dict) else __builtins__) | {
