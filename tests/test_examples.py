@@ -37,6 +37,18 @@ class Examples(unittest.TestCase):
     def test_verdicts(self):
         self.holds("examples/verdicts.txt", 9)
 
+    def test_plans(self):
+        self.holds("examples/plans.txt", 14)
+
+    def test_onetrain(self):
+        self.holds("examples/onetrain.txt", 11)
+
+    def test_rounds(self):
+        self.holds("examples/rounds.txt", 12)
+
+    def test_firstplaces(self):
+        self.holds("examples/firstplaces.txt", 10)
+
     def test_readme(self):
         self.holds("../README.md", 9)
 

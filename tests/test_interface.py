@@ -54,6 +54,23 @@ FUNCTIONS = {
         "reason": "line standing", "is_reason": "line standing thing", "is_safe": "line standing",
         "is_safe_slowly": "line standing", "reached": "line standing",
     },
+    "plans": {
+        "good_moves": "line standing", "refused_moves": "line standing", "plan": "line standing",
+        "is_plan": "line standing thing", "staffs_behind": "line standing row",
+    },
+    "onetrain": {
+        "gets_home": "line standing name", "is_bar": "line standing name thing", "far": "line standing name",
+        "is_row_for": "line standing name thing", "bar": "line standing name", "row_for": "line standing name",
+        "helpers": "line standing name",
+    },
+    "rounds": {
+        "are_rounds": "standing", "go_on": "line standing", "is_round_row": "line standing thing",
+        "round_row": "line standing", "waits": "row", "shares": "line standing",
+    },
+    "firstplaces": {
+        "passes_from": "line trains key", "first_staffs": "line trains", "are_first_staffs": "line trains thing",
+        "is_no_places": "line trains thing",
+    },
 }
 
 

@@ -36,8 +36,12 @@ class Reason(Checks, unittest.TestCase):
     def test_by_hand(self):
         first = ("passes", ("a", "b"), 2, 0)
         self.assertEqual(reason(LINE, CROWD), first)
-        for thing in (first, ("passes", ("b", "d"), 2, 0), ("shut", ("b",)), ("shut", ("b", "d")), ("shut", ("a", "b"))):
-            self.tells(is_reason(LINE, CROWD, thing), helper.is_shut(LINE, CROWD, thing[1]) or thing[0] == "passes")
+        for thing in (first, ("passes", ("b", "d"), 2, 0), ("shut", ("a", "b", "d"))):
+            self.tells(is_reason(LINE, CROWD, thing), True, thing)
+        for part in (("b",), ("b", "d"), ("a", "b"), ("c",), ("d", "b", "a"), ["a", "b", "d"]):
+            self.tells(is_reason(LINE, CROWD, ("shut", part)), False, part)
+        for word in ("passes", "held", "", "shut ", None, True, ("shut",), ("a", "b", "d")):
+            self.tells(is_reason(LINE, CROWD, (word, ("a", "b", "d"))), False, word)
         self.assertIsNone(reason(LINE, (CROWD[0], (("p", "a", ("b",)), ("r", "b", ("d",))))))
 
     def test_the_least_section_comes_first(self):
@@ -97,8 +101,8 @@ class IsReason(Checks, unittest.TestCase):
         for standing in (CROWD, (CROWD[0], ())):
             for part in any_values():
                 for thing in (
-                    part, ("shut", part), (part, ("b",)), ("passes", part, 2, 0), ("passes", ("a", "b"), part, 0),
-                    (part, ("a", "b"), 2, 0), ("passes", ("a", "b"), 2, part), ("shut", ("b",), part),
+                    part, ("shut", part), (part, ("a", "b", "d")), ("passes", part, 2, 0), ("passes", ("a", "b"), part, 0),
+                    (part, ("a", "b"), 2, 0), ("passes", ("a", "b"), 2, part), ("shut", ("a", "b", "d"), part),
                 ):
                     expected = self.expected(LINE, standing, thing)
                     self.tells(is_reason(LINE, standing, thing), expected, thing)
@@ -106,9 +110,9 @@ class IsReason(Checks, unittest.TestCase):
         self.assertGreater(min(told.values()), 2)
 
     def test_nearly_a_reason(self):
-        others = [None, True, False, 0, 1, 2, "shut", "passes", "b", ("b",), ("a", "b"), ("b", "d"), ("b", "c"), (), []]
+        others = [None, True, False, 0, 1, 2, "shut", "passes", "d", ("b",), ("a", "b"), ("b", "d"), ("b", "c"), ()]
         told = {True: 0, False: 0}
-        for right in (("passes", ("a", "b"), 2, 0), ("passes", ("b", "d"), 2, 0), ("shut", ("b",)), ("shut", ("b", "d"))):
+        for right in (("passes", ("a", "b"), 2, 0), ("passes", ("b", "d"), 2, 0), ("shut", ("a", "b", "d"))):
             for thing in exchanged(right, others):
                 expected = self.expected(LINE, CROWD, thing)
                 self.tells(is_reason(LINE, CROWD, thing), expected, thing)
@@ -118,8 +122,8 @@ class IsReason(Checks, unittest.TestCase):
     def test_truths_are_no_counts(self):
         one = (staffs_at("b", "b", "b"), (("p", "a", ("b",)),))
         self.tells(is_reason(LINE, one, ("passes", ("a", "b"), 0, 1)), True)
-        for thing in (("passes", ("a", "b"), False, 1), ("passes", ("a", "b"), 0, True), ("passes", ("a", "b"), False, True)):
-            self.tells(is_reason(LINE, one, thing), False)
+        for counts in ((False, 1), (0, True), (False, True)):
+            self.tells(is_reason(LINE, one, ("passes", ("a", "b"), *counts)), False, counts)
 
     def test_sections_that_fit(self):
         standing = (staffs_at("a", "b", "b"), (("p", "a", ("b", "a", "b")), ("q", "d", ("b",))))
@@ -143,7 +147,8 @@ class Reached(Checks, unittest.TestCase):
         self.assertGreater(most, 300)
 
     def test_just_at_the_most(self):
-        for stops, many in (((7, 9, 24), 2000), ((39, 1, 24), 2000), ((36, 26, 1), 1998), ((), 1), ((4, 4, 4, 4, 1, 0), 1250)):
+        sizes = [((7, 9, 24), 2000), ((39, 1, 24), 2000), ((36, 26, 1), 1998), ((), 1), ((4, 4, 4, 4, 1, 0), 1250)]
+        for stops, many in sizes:
             line, standing = walkers(*stops)
             with self.within(10):
                 self.assertEqual(len(reached(line, standing)), many)
