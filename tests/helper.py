@@ -1,6 +1,7 @@
 """What the tests share: the definitions written out once more in another way, sample railways, odd values."""
 
 import contextlib
+import copy
 import functools
 import itertools
 import random
@@ -8,6 +9,7 @@ import re
 import time
 
 from staffhome import errors
+from staffhome.house import House
 
 SORTS = ("free", "staff", "ticket")
 
@@ -262,6 +264,89 @@ def all_reached(line, standing, most):
     return list(found)
 
 
+@functools.lru_cache(maxsize=None)
+def parts_of(line):
+    return tuple(all_parts(line))
+
+
+@functools.lru_cache(maxsize=None)
+def is_safe(line, standing):
+    """Whether a STANDING of a small LINE is SAFE, by the words of [5]."""
+    return all_fit(line, standing) and not any(is_shut(line, standing, part) for part in parts_of(line))
+
+
+class PlainHouse:
+    """Point [32] on a small LINE, word by word; instead of a reason ask returns the STANDING that it is refused for."""
+
+    def __init__(self, line, standing):
+        self.line, self.standing = line, standing
+        self.lasts = {name: None for name, _, _ in standing[1]}
+        self.ways = dict(self.lasts)
+        self.grants = []
+        self.rows = []
+
+    def ask(self, name, number):
+        way = self.ways[name]
+        if number is not None and number == way:
+            self.come(name)
+        elif number != self.lasts[name]:
+            return ("late",)
+        elif way is not None:
+            return ("go", way, self.grants[way][3])
+        (train,) = [train for train in self.standing[1] if train[0] == name]
+        if train[2] == ():
+            return ("home",)
+        start, stop = train[1], train[2][0]
+        (sort,) = [row[2] for row in self.line[1] if row[:2] == key_of(start, stop)]
+        for other, number in self.ways.items():
+            if sort != "free" and number is not None and set(self.grants[number][1:3]) == {start, stop}:
+                return ("wait", other)
+        if sort != "free" and dict(self.standing[0])[key_of(start, stop)] != start:
+            return ("away",)
+        for how in SORTS:
+            later = behind(self.line, self.standing, (name, how))
+            if later is not None and is_safe(self.line, later):
+                return ("go", self.go(name, how), how)
+        return ("refused", behind(self.line, self.standing, (name, "staff")))
+
+    def come(self, name):
+        self.lasts[name], self.ways[name] = self.ways[name], None
+        self.rows.append(f"at {name}")
+
+    def go(self, name, how):
+        (train,) = [train for train in self.standing[1] if train[0] == name]
+        self.ways[name] = len(self.grants)
+        self.grants.append((name, train[1], train[2][0], how))
+        self.standing = behind(self.line, self.standing, (name, how))
+        self.rows.append(f"go {name} {how}")
+        return self.ways[name]
+
+    def under_way(self):
+        return {name: (*self.grants[way][1:3], way, self.grants[way][3]) for name, way in sorted(self.ways.items())
+                if way is not None}
+
+    def next_rows(self):
+        """The dict from names to the words of the line that asks of them may write first."""
+        found = {}
+        for name in sorted(self.ways):
+            twin = copy.deepcopy(self)
+            twin.ask(name, self.lasts[name] if self.ways[name] is None else self.ways[name])
+            if len(twin.rows) > len(self.rows):
+                found[name] = twin.rows[len(self.rows)].split(" ")
+        return found
+
+    def log(self):
+        return "".join(row + "\n" for row in self.rows)
+
+
+def is_reason(line, standing, thing):
+    """Whether thing is a right reason, by the words of [23]."""
+    if thing[0] == "passes":
+        _, key, a, b = thing
+        return key in keys_of_sort(line, "staff") and (a, b) == plain_counts(standing, key) and a - b not in (0, 1)
+    return thing[0] == "shut" and len(thing) == 2 and is_shut(line, standing, thing[1])
+
+
 # Sample railways and standings.
 
 
@@ -432,7 +517,9 @@ def scattered(dice, rows):
 
 
 def package_objects():
+    line, standing = (("a", "b"), (("a", "b", "staff"),)), (((("a", "b"), "a"),), (("p", "a", ("b",)),))
     return [
+        House(line, standing),
         errors.StaffError("a"), errors.NoCommand("a"), errors.NoLine(("none",)), errors.NoMove(0),
         errors.NoText(0, 1), errors.NoTrain("a"), errors.NoWay(None), errors.Nothing(), errors.TooMany(2000),
         errors.Used("p"), errors.Wrong(0),

@@ -49,6 +49,12 @@ class Examples(unittest.TestCase):
     def test_firstplaces(self):
         self.holds("examples/firstplaces.txt", 10)
 
+    def test_whatif(self):
+        self.holds("examples/whatif.txt", 11)
+
+    def test_house(self):
+        self.holds("examples/house.txt", 19)
+
     def test_readme(self):
         self.holds("../README.md", 9)
 

@@ -13,6 +13,15 @@ CLASSES = {
         "NoText": ["line", "column"], "NoTrain": ["name"], "NoWay": ["reason"], "Nothing": [], "TooMany": ["most"],
         "Used": ["name"], "Wrong": ["place"],
     },
+    "house": {"House": ["line", "standing"]},
+}
+
+METHODS = {
+    "house": {
+        "House": {
+            "ask": "name number", "standing": "", "under_way": "", "goers": "", "log": "", "twin": "",
+        },
+    },
 }
 
 FUNCTIONS = {
@@ -71,6 +80,15 @@ FUNCTIONS = {
         "passes_from": "line trains key", "first_staffs": "line trains", "are_first_staffs": "line trains thing",
         "is_no_places": "line trains thing",
     },
+    "whatif": {
+        "staying": "line standing names", "stays": "line standing name", "spare_trains": "line standing",
+        "needed_helpers": "line standing name", "longer": "line standing name more",
+        "next_stops": "line standing name", "joined": "line standing name place rest",
+        "promised": "line standing name place rest", "carried": "line standing key", "carries": "line standing",
+        "with_sort": "line standing key sort", "mends": "line standing sort", "wider": "one other",
+    },
+    "drivers": {"driver_at_first": "name", "ask_of": "driver", "heard": "driver answer", "came": "driver"},
+    "logs": {"whole_lines": "text", "reopened": "line standing text"},
 }
 
 
@@ -101,6 +119,18 @@ class Interface(unittest.TestCase):
                 methods = {row.name: row for row in defined[name].body if isinstance(row, ast.FunctionDef)}
                 if parameters is not None:
                     self.assertEqual(self.parameters(methods["__init__"])[1:], parameters, (module, name))
+
+    def test_methods(self):
+        for module, classes in METHODS.items():
+            defined = self.defined(module)
+            for name, methods in classes.items():
+                found = {row.name: row for row in defined[name].body if isinstance(row, ast.FunctionDef)}
+                for method, parameters in methods.items():
+                    self.assertEqual(self.parameters(found[method])[1:], parameters.split(), (name, method))
+
+    def test_all_modules_are_told(self):
+        listed = set(CLASSES) | set(FUNCTIONS)
+        self.assertEqual(listed, {path.stem for path in PACKAGE.glob("*.py")} - {"__init__"})
 
     def test_the_init_file_is_empty(self):
         self.assertEqual((PACKAGE / "__init__.py").read_bytes(), b"")

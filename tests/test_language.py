@@ -28,7 +28,7 @@ EXPRESSIONS = (
 )
 
 OPERATORS = (
-    ast.Add, ast.Sub, ast.Mult, ast.FloorDiv, ast.USub, ast.Not, ast.And, ast.Or, ast.Eq, ast.NotEq, ast.Lt, ast.LtE,
+    ast.Add, ast.Sub, ast.Mult, ast.FloorDiv, ast.Mod, ast.USub, ast.Not, ast.And, ast.Or, ast.Eq, ast.NotEq, ast.Lt, ast.LtE,
     ast.Gt, ast.GtE, ast.Is, ast.IsNot, ast.In, ast.NotIn,
 )
 
@@ -110,7 +110,7 @@ class Code(unittest.TestCase):
                     self.assertIs(row, tree.body[0], name)
                     self.assertIsInstance(row.value.value, str)
                 elif isinstance(row, ast.Assign):
-                    ast.literal_eval(row.value)
+                    self.assertTrue(self.is_table(row.value, seen) or self.is_plain(row.value), name)
                     self.assertEqual([len(row.targets), row.targets[0].__class__], [1, ast.Name], name)
                     seen.append(row.targets[0].id)
                 elif isinstance(row, ast.ImportFrom):
@@ -119,6 +119,17 @@ class Code(unittest.TestCase):
                     self.assertIsInstance(row, (ast.FunctionDef, ast.ClassDef), name)
                     seen.append(row.name)
             self.assertEqual(len(seen), len(set(seen)), name)
+
+    def is_plain(self, node):
+        worth = ast.literal_eval(node)
+        parts = worth if isinstance(worth, (tuple, list)) else list(worth.values()) if isinstance(worth, dict) else []
+        return not any(isinstance(part, (list, dict)) for part in parts)
+
+    def is_table(self, node, seen):
+        """Whether a dict has strings as keys, and functions that were defined above it."""
+        if not isinstance(node, ast.Dict) or not all(isinstance(worth, ast.Name) for worth in node.values):
+            return False
+        return all(worth.id in seen for worth in node.values) and all(isinstance(key.value, str) for key in node.keys)
 
     def test_imports(self):
         defined = {name: {getattr(row, "name", None) for row in tree.body} for name, tree in trees().items()}
@@ -150,7 +161,7 @@ class Code(unittest.TestCase):
             bound += [node.name for node in ast.walk(tree) if isinstance(node, (ast.FunctionDef, ast.ClassDef))]
             for word in bound:
                 self.assertNotIn(word, BARRED_NAMES, name)
-                self.assertRegex(word, "^([A-Za-z][A-Za-z0-9_]*|__init__)$", name)
+                self.assertRegex(word, "^([A-Za-z][A-Za-z0-9_]*|__init__|__eq__)$", name)
 
     def test_what_is_read_is_known(self):
         for name, tree in trees().items():
@@ -172,17 +183,26 @@ class Code(unittest.TestCase):
                 self.assertEqual(node.keywords, [], (name, node.lineno))
 
     def test_loops_iterate_over_nothing_kept(self):
-        """zip, enumerate and their like are iterated on the spot."""
-        lazy = ("zip", "enumerate", "reversed", "range")
+        """zip, enumerate, items and their like are iterated on the spot."""
+        lazy = ("zip", "enumerate", "reversed", "range", "items", "keys", "values")
+        eager = ("list", "tuple", "dict", "sorted", "sum", "any", "all", "enumerate", "zip", "min", "max")
         for name, tree in trees().items():
             spots = [node.iter for node in ast.walk(tree) if isinstance(node, (ast.For, ast.comprehension))]
-            for node in ast.walk(tree):
-                if isinstance(node, ast.Call) and isinstance(node.func, ast.Name):
-                    if node.func.id in ("list", "tuple", "dict", "sorted", "sum", "any", "all", "enumerate", "zip"):
-                        spots.extend(node.args[:1])
-            for node in ast.walk(tree):
-                if isinstance(node, ast.Call) and isinstance(node.func, ast.Name) and node.func.id in lazy:
+            calls = [node for node in ast.walk(tree) if isinstance(node, ast.Call)]
+            for node in calls:
+                if isinstance(node.func, ast.Name) and node.func.id in eager:
+                    spots.extend(node.args[:1])
+            for node in calls:
+                word = node.func.attr if isinstance(node.func, ast.Attribute) else node.func.id
+                if word in lazy:
                     self.assertTrue(any(node is spot for spot in spots), (name, node.lineno))
+
+    def test_methods_and_attributes_of_a_class_are_unlike(self):
+        for name, node in nodes(ast.ClassDef):
+            methods = [row.name for row in node.body if isinstance(row, ast.FunctionDef)]
+            self.assertEqual(len(methods), len(set(methods)), (name, node.name))
+            stored = {row.attr for row in ast.walk(node) if isinstance(row, ast.Attribute) and isinstance(row.ctx, ast.Store)}
+            self.assertFalse(stored & set(methods), (name, node.name))
 
     def test_errors(self):
         own = {node.name for _, node in nodes(ast.ClassDef)}
@@ -207,7 +227,7 @@ class Code(unittest.TestCase):
     def test_docstrings(self):
         for name, tree in trees().items():
             for node in ast.walk(tree):
-                if isinstance(node, (ast.FunctionDef, ast.ClassDef)) and node.name != "__init__":
+                if isinstance(node, (ast.FunctionDef, ast.ClassDef)) and node.name not in ("__init__", "__eq__"):
                     self.assertIsNotNone(ast.get_docstring(node), (name, node.name))
 
 
