@@ -119,6 +119,13 @@ def is_rest(line, place, thing):
     return all([are_neighbours(line, one, other) for one, other in zip((place,) + thing, thing)])
 
 
+def is_walk(line, thing):
+    """Whether thing is a tuple of stations, each but the first one a NEIGHBOUR of the one ahead of it."""
+    if not isinstance(thing, tuple):
+        return False
+    return len(thing) == 0 or (is_station(line, thing[0]) and is_rest(line, thing[0], thing[1:]))
+
+
 def is_train(line, thing):
     """Whether thing is a tuple (name, place, rest) as trains of the LINE are."""
     if not is_tuple_of(thing, 3):

@@ -16,25 +16,30 @@ def gone_on(staffs, firsts, part, train):
     return (name, place, rest)
 
 
-def run_in(staffs, trains, part):
-    """The tuple (firsts, trains) of the OPEN RUN of a PART alone.
+def run_from(staffs, passed, trains, part):
+    """The tuple (firsts, trains) of an OPEN RUN of a PART alone that goes on from where it was.
 
     staffs is the dict from KEYS to where staffs lie; a section that is not in it lies open to all. firsts is the dict
     from the KEYS of the sections that are passed, in the order in which they are passed first, to the tuple of the
     name of the train that passes it first and the station where this one comes from. trains is the list of the trains
-    of the PART at the end.
+    of the PART at the end. passed is the dict firsts as it was.
     """
-    firsts = {}
+    firsts = {key: passed[key] for key in passed}
     ahead = None
-    behind = [train for train in trains if train[1] in part]
+    behind = list(trains)
     while behind != ahead:
         ahead = behind
         behind = [gone_on(staffs, firsts, part, train) for train in ahead]
     return (firsts, behind)
 
 
+def run_in(staffs, trains, part):
+    """The tuple (firsts, trains), as run_from tells it, of an OPEN RUN of a PART alone from its begin on."""
+    return run_from(staffs, {}, [train for train in trains if train[1] in part], part)
+
+
 def run_of(standing, part):
-    """The tuple (firsts, trains), as run_in tells it, of a STANDING."""
+    """The tuple (firsts, trains), as run_from tells it, of a STANDING."""
     return run_in({key: station for key, station in standing[0]}, standing[1], part)
 
 

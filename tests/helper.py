@@ -9,7 +9,9 @@ import re
 import time
 
 from staffhome import errors
+from staffhome.desk import Desk
 from staffhome.house import House
+from staffhome.kept import Kept
 
 SORTS = ("free", "staff", "ticket")
 
@@ -519,7 +521,7 @@ def scattered(dice, rows):
 def package_objects():
     line, standing = (("a", "b"), (("a", "b", "staff"),)), (((("a", "b"), "a"),), (("p", "a", ("b",)),))
     return [
-        House(line, standing),
+        House(line, standing), Kept(line, standing), Desk("a b staff", "staff a b a\ntrain p a b"),
         errors.StaffError("a"), errors.NoCommand("a"), errors.NoLine(("none",)), errors.NoMove(0),
         errors.NoText(0, 1), errors.NoTrain("a"), errors.NoWay(None), errors.Nothing(), errors.TooMany(2000),
         errors.Used("p"), errors.Wrong(0),

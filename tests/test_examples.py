@@ -55,6 +55,15 @@ class Examples(unittest.TestCase):
     def test_house(self):
         self.holds("examples/house.txt", 19)
 
+    def test_days(self):
+        self.holds("examples/days.txt", 13)
+
+    def test_kept(self):
+        self.holds("examples/kept.txt", 13)
+
+    def test_desk(self):
+        self.holds("examples/desk.txt", 8)
+
     def test_readme(self):
         self.holds("../README.md", 9)
 

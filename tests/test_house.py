@@ -1,5 +1,6 @@
 """Point [32], beside a house that follows its words one after the other."""
 
+import copy
 import random
 import unittest
 
@@ -162,14 +163,16 @@ class Ask(Shared, unittest.TestCase):
             for _ in range(2 * passes_of(standing) + 1):
                 name = dice.choice(names)
                 twin, before = house.twin(), all_told(house)
+                plain_twin = copy.deepcopy(plain)
                 self.assertEqual(all_told(twin), before)
                 way, last = plain.ways[name], plain.lasts[name]
                 self.asks(house, plain, name, last if way is None else way)
                 self.assertEqual(all_told(twin), before)
                 after = all_told(house)
                 for other in names:
-                    twin.ask(other, plain.lasts[other])
-                    twin.ask(other, plain.ways[other])
+                    self.asks(twin, plain_twin, other, plain_twin.lasts[other])
+                    self.asks(twin, plain_twin, other, plain_twin.ways[other])
+                self.same(twin, plain_twin)
                 self.assertEqual(all_told(house), after)
                 self.same(house, plain)
 

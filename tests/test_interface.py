@@ -14,6 +14,8 @@ CLASSES = {
         "Used": ["name"], "Wrong": ["place"],
     },
     "house": {"House": ["line", "standing"]},
+    "kept": {"Kept": ["line", "standing"]},
+    "desk": {"Desk": ["sections", "cards"]},
 }
 
 METHODS = {
@@ -22,6 +24,14 @@ METHODS = {
             "ask": "name number", "standing": "", "under_way": "", "goers": "", "log": "", "twin": "",
         },
     },
+    "kept": {
+        "Kept": {
+            "do": "row", "put": "name place rest", "take": "name", "longer": "name more", "lay": "key station",
+            "undo": "", "redo": "", "line": "", "standing": "", "opened": "", "counts": "", "overfull": "", "held": "",
+            "reason": "", "is_safe": "", "gone": "", "twin": "", "__eq__": "other",
+        },
+    },
+    "desk": {"Desk": {"execute": "line", "kept": "", "done": ""}},
 }
 
 FUNCTIONS = {
@@ -89,6 +99,11 @@ FUNCTIONS = {
     },
     "drivers": {"driver_at_first": "name", "ask_of": "driver", "heard": "driver answer", "came": "driver"},
     "logs": {"whole_lines": "text", "reopened": "line standing text"},
+    "journals": {
+        "is_journal": "line standing thing", "is_home_journal": "line standing thing", "last_end": "journal",
+        "idle": "journal", "most_abroad": "journal", "waits": "standing journal",
+    },
+    "days": {"play": "line standing times order lost", "latest_end": "line standing times lost"},
 }
 
 
